@@ -1,1 +1,1 @@
-"""Bounds of the thickness of ice on a grid, from measurements and a greatest step."""
+"""Bounds of the thickness of ice on a grid, and safe routes, from measurements and a greatest step."""

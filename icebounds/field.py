@@ -4,7 +4,7 @@ from icebounds.ice import Ice, MAX_THICKNESS
 
 CREATE = 0
 # How many parameters each call has, by its number.
-PARAMETER_COUNTS = (3, 1, 2, 1, 0, 1, 1, 0, 0, 2, 1, 0)
+PARAMETER_COUNTS = (3, 1, 2, 1, 0, 1, 1, 0, 0, 2, 1, 0, 2, 1, 1, 3, 3, 2, 2, 1, 0, 0, 0)
 
 MAX_SIDE = 5
 GREATEST_MAX_STEP = 20
@@ -12,7 +12,13 @@ GREATEST_MAX_STEP = 20
 NO_SUCH_CELL = -2
 NO_INSTANCE = -11
 OUT_OF_RANGE = -22
+ALREADY_MEASURED = -17
 INCONSISTENT = -33
+NO_SAFE_ROUTE = -33
+
+NOT_SAFE = 0
+SAFE = 1
+UNCERTAIN = 2
 
 
 def is_creatable(columns, rows, max_step):
@@ -22,13 +28,24 @@ def is_creatable(columns, rows, max_step):
     return max_step <= GREATEST_MAX_STEP
 
 
-def refusal(ice, cell, thickness):
-    """Give the answer that refuses this cell or thickness, or an empty list."""
-    # The document lists the cell's error first in every call that takes both.
-    if not ice.has_cell(cell):
-        return [NO_SUCH_CELL]
+def refusal(ice, cells, thickness):
+    """Give the answer that refuses one of the cells or the thickness, or an empty list."""
+    # The document lists the cells' error first in every call that takes both.
+    for cell in cells:
+        if not ice.has_cell(cell):
+            return [NO_SUCH_CELL]
     if thickness > MAX_THICKNESS:
         return [OUT_OF_RANGE]
+    return []
+
+
+def measure_refusal(ice, cell, thickness):
+    """Give the answer that refuses a measurement, or an empty list."""
+    refused = refusal(ice, [cell], thickness)
+    if refused:
+        return refused
+    if not ice.fits(cell, thickness, ice.measurements_except(cell), ice.max_step):
+        return [INCONSISTENT]
     return []
 
 
@@ -45,23 +62,19 @@ def set_max_step(ice, max_step):
 
 def measure(ice, cell, thickness):
     """Record a measurement and answer how many there are."""
-    refused = refusal(ice, cell, thickness)
+    refused = measure_refusal(ice, cell, thickness)
     if refused:
         return refused
-    others = ice.measurements_except(cell)
-    if not ice.fits(cell, thickness, others, ice.max_step):
-        return [INCONSISTENT]
-    ice.measurements = others + [(cell, thickness)]
+    ice.record(cell, thickness)
     return [len(ice.measurements)]
 
 
 def remove_measurement(ice, cell):
     """Remove the measurement of the cell and answer how many remain."""
-    others = ice.measurements_except(cell)
-    if len(others) == len(ice.measurements):
+    if not ice.is_measured(cell):
         return [NO_SUCH_CELL]
-    ice.measurements = others
-    return [len(others)]
+    ice.measurements = ice.measurements_except(cell)
+    return [len(ice.measurements)]
 
 
 def list_measurements(ice):
@@ -99,7 +112,7 @@ def upper_bounds(ice):
 
 def is_possible(ice, cell, thickness):
     """Answer 1 if the ice can have this thickness at the cell, otherwise 0."""
-    refused = refusal(ice, cell, thickness)
+    refused = refusal(ice, [cell], thickness)
     if refused:
         return refused
     # The bounds are exact, and at a measured cell both are the measured thickness.
@@ -125,6 +138,95 @@ def most_uncertain_cell(ice):
     return [found, ice.uncertainty(found)]
 
 
+def check_cell(ice, required, cell):
+    """Answer 1 if the cell is safe, 2 if it is uncertain, 0 if it is neither."""
+    refused = refusal(ice, [cell], required)
+    if refused:
+        return refused
+    if ice.is_safe(cell, required):
+        return [SAFE]
+    if ice.is_uncertain(cell, required):
+        return [UNCERTAIN]
+    return [NOT_SAFE]
+
+
+def safe_cells(ice, required):
+    """Answer the number of safe cells, then these."""
+    refused = refusal(ice, [], required)
+    if refused:
+        return refused
+    cells = ice.safe_cells(required)
+    return [len(cells)] + cells
+
+
+def uncertain_cells(ice, required):
+    """Answer the number of uncertain cells, then these."""
+    refused = refusal(ice, [], required)
+    if refused:
+        return refused
+    cells = ice.uncertain_cells(required)
+    return [len(cells)] + cells
+
+
+def safe_route(ice, required, origin, target):
+    """Answer the number of cells of the reported safe route, then these."""
+    refused = refusal(ice, [origin, target], required)
+    if refused:
+        return refused
+    route = ice.safe_route(required, origin, target)
+    # A route has one cell at least, so an empty one stands for none.
+    if not route:
+        return [NO_SAFE_ROUTE]
+    return [len(route)] + route
+
+
+def safe_route_length(ice, required, origin, target):
+    """Answer the number of steps of the reported safe route."""
+    answer = safe_route(ice, required, origin, target)
+    if answer[0] < 0:
+        return answer
+    return [answer[0] - 1]
+
+
+def max_safe_thickness(ice, origin, target):
+    """Answer the greatest required thickness for which there is a safe route."""
+    if not (ice.has_cell(origin) and ice.has_cell(target)):
+        return [NO_SUCH_CELL]
+    return [ice.max_safe_thickness(origin, target)]
+
+
+def total_uncertainty_with(ice, cell, thickness):
+    """Answer the total uncertainty that there would be after a measurement."""
+    refused = measure_refusal(ice, cell, thickness)
+    if refused:
+        return refused
+    return [ice.with_measurement(cell, thickness).total_uncertainty()]
+
+
+def worst_total_uncertainty(ice, cell):
+    """Answer the greatest total uncertainty that there may be after measuring the cell."""
+    if not ice.has_cell(cell):
+        return [NO_SUCH_CELL]
+    if ice.is_measured(cell):
+        return [ALREADY_MEASURED]
+    return [ice.worst_total_uncertainty(cell)]
+
+
+def smallest_consistent_step(ice):
+    """Answer the smallest step at which the measurements would be consistent."""
+    return [ice.smallest_consistent_step()]
+
+
+def total_uncertainty(ice):
+    """Answer the sum of the uncertainties of all cells."""
+    return [ice.total_uncertainty()]
+
+
+def summary(ice):
+    """Answer the size of the grid, the greatest step and the number of measurements."""
+    return [ice.columns, ice.rows, ice.max_step, len(ice.measurements)]
+
+
 OPERATIONS = {
     1: set_max_step,
     2: measure,
@@ -137,6 +239,17 @@ OPERATIONS = {
     9: is_possible,
     10: uncertainty,
     11: most_uncertain_cell,
+    12: check_cell,
+    13: safe_cells,
+    14: uncertain_cells,
+    15: safe_route,
+    16: safe_route_length,
+    17: max_safe_thickness,
+    18: total_uncertainty_with,
+    19: worst_total_uncertainty,
+    20: smallest_consistent_step,
+    21: total_uncertainty,
+    22: summary,
 }
 
 
@@ -147,7 +260,9 @@ def operate(ice, number, parameters):
         return operation(ice)
     if len(parameters) == 1:
         return operation(ice, parameters[0])
-    return operation(ice, parameters[0], parameters[1])
+    if len(parameters) == 2:
+        return operation(ice, parameters[0], parameters[1])
+    return operation(ice, parameters[0], parameters[1], parameters[2])
 
 
 def answers(calls):

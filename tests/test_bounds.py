@@ -4,8 +4,8 @@ import unittest
 
 from tests.support import (
     CREATE, GREATEST_NUMBER, IS_POSSIBLE, LOWER_BOUND, LOWER_BOUNDS, MEASURE, MOST_UNCERTAIN_CELL,
-    NO_SUCH_CELL, OUT_OF_RANGE, REMOVE_MEASUREMENT, SET_MAX_STEP, UNCERTAINTY, UPPER_BOUND,
-    UPPER_BOUNDS, last, run, state,
+    NO_SUCH_CELL, OUT_OF_RANGE, REMOVE_MEASUREMENT, STATE, UNCERTAINTY, UPPER_BOUND, UPPER_BOUNDS,
+    last, run,
 )
 
 READERS_OF_A_CELL = [LOWER_BOUND, UPPER_BOUND, UNCERTAINTY]
@@ -105,11 +105,10 @@ class BoundsTest(unittest.TestCase):
 
     def test_reading_leaves_the_instance_as_it_was(self):
         made = [(CREATE, 3, 2, 5), (MEASURE, 1, 40), (MEASURE, 5, 50)]
-        shown = state(3, 2) + [(SET_MAX_STEP, 5)]
-        expected = run(*made, *shown)[3:]
+        expected = run(*made, *STATE)[3:]
         readers = [(reader, cell) for reader in READERS_OF_A_CELL for cell in (0, 6)]
         readers += [(IS_POSSIBLE, 0, 45), (IS_POSSIBLE, 6, 45), (IS_POSSIBLE, 0, 100)]
-        self.assertEqual(run(*made, *readers, *shown)[3 + len(readers):], expected)
+        self.assertEqual(run(*made, *readers, *STATE)[3 + len(readers):], expected)
 
 
 class IsPossibleTest(unittest.TestCase):

@@ -4,7 +4,7 @@ import unittest
 
 from tests.support import (
     CREATE, GREATEST_NUMBER, INCONSISTENT, LIST_MEASUREMENTS, LOWER_BOUND, LOWER_BOUNDS, MEASURE,
-    NO_SUCH_CELL, OUT_OF_RANGE, REMOVE_MEASUREMENT, SET_MAX_STEP, UPPER_BOUNDS, last, run, state,
+    NO_SUCH_CELL, OUT_OF_RANGE, REMOVE_MEASUREMENT, SET_MAX_STEP, STATE, UPPER_BOUNDS, last, run,
 )
 
 
@@ -48,12 +48,11 @@ class CreateTest(unittest.TestCase):
 
     def test_a_refused_create_leaves_the_instance_as_it_was(self):
         made = [(CREATE, 3, 1, 2), (MEASURE, 0, 10), (MEASURE, 2, 13)]
-        shown = state(3, 1) + [(SET_MAX_STEP, 2)]
         for wrong in [(0, 2, 5), (2, 6, 5), (2, 2, 21), (GREATEST_NUMBER, 2, 5)]:
             with self.subTest(wrong=wrong):
-                answered = run(*made, (CREATE,) + wrong, *shown)
+                answered = run(*made, (CREATE,) + wrong, *STATE)
                 self.assertEqual(answered[3], OUT_OF_RANGE)
-                self.assertEqual(answered[4:], run(*made, *shown)[3:])
+                self.assertEqual(answered[4:], run(*made, *STATE)[3:])
 
 
 class SetMaxStepTest(unittest.TestCase):
@@ -112,12 +111,11 @@ class SetMaxStepTest(unittest.TestCase):
 
     def test_a_refused_step_leaves_the_instance_as_it_was(self):
         made = [(CREATE, 3, 1, 6), (MEASURE, 0, 10), (MEASURE, 2, 20)]
-        shown = state(3, 1) + [(SET_MAX_STEP, 6)]
         for step, refused in [(4, INCONSISTENT), (21, OUT_OF_RANGE)]:
             with self.subTest(step=step):
-                answered = run(*made, (SET_MAX_STEP, step), *shown)
+                answered = run(*made, (SET_MAX_STEP, step), *STATE)
                 self.assertEqual(answered[3], refused)
-                self.assertEqual(answered[4:], run(*made, *shown)[3:])
+                self.assertEqual(answered[4:], run(*made, *STATE)[3:])
 
     def test_equal_measurements_allow_the_step_zero(self):
         self.assertEqual(

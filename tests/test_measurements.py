@@ -4,7 +4,7 @@ import unittest
 
 from tests.support import (
     CREATE, GREATEST_NUMBER, INCONSISTENT, LIST_MEASUREMENTS, LOWER_BOUNDS, MEASURE, NO_SUCH_CELL,
-    OUT_OF_RANGE, REMOVE_MEASUREMENT, UPPER_BOUNDS, last, run, state,
+    OUT_OF_RANGE, REMOVE_MEASUREMENT, STATE, UPPER_BOUNDS, last, run,
 )
 
 
@@ -94,9 +94,9 @@ class MeasureTest(unittest.TestCase):
         refused = [(3, 10, NO_SUCH_CELL), (0, 100, OUT_OF_RANGE), (0, 18, INCONSISTENT), (1, 13, INCONSISTENT)]
         for cell, thickness, answer in refused:
             with self.subTest(cell=cell, thickness=thickness):
-                answered = run(*made, (MEASURE, cell, thickness), *state(3, 1))
+                answered = run(*made, (MEASURE, cell, thickness), *STATE)
                 self.assertEqual(answered[3], answer)
-                self.assertEqual(answered[4:], run(*made, *state(3, 1))[3:])
+                self.assertEqual(answered[4:], run(*made, *STATE)[3:])
 
 
 class RemoveMeasurementTest(unittest.TestCase):
@@ -120,9 +120,9 @@ class RemoveMeasurementTest(unittest.TestCase):
         made = [(CREATE, 3, 1, 2), (MEASURE, 2, 12)]
         for cell in [0, 1, 3, GREATEST_NUMBER]:
             with self.subTest(cell=cell):
-                answered = run(*made, (REMOVE_MEASUREMENT, cell), *state(3, 1))
+                answered = run(*made, (REMOVE_MEASUREMENT, cell), *STATE)
                 self.assertEqual(answered[2], NO_SUCH_CELL)
-                self.assertEqual(answered[3:], run(*made, *state(3, 1))[2:])
+                self.assertEqual(answered[3:], run(*made, *STATE)[2:])
 
     def test_a_cell_whose_measurement_was_removed(self):
         self.assertEqual(

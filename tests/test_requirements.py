@@ -4,16 +4,9 @@ import random
 import unittest
 
 from tests.support import (
-    CREATE, INCONSISTENT, IS_POSSIBLE, LIST_MEASUREMENTS, LOWER_BOUNDS, MEASURE, MOST_UNCERTAIN_CELL,
-    UPPER_BOUNDS, run,
+    CREATE, INCONSISTENT, IS_POSSIBLE, LIST_MEASUREMENTS, LOWER_BOUNDS, MAX_SAFE_THICKNESS, MEASURE,
+    MOST_UNCERTAIN_CELL, NO_SAFE_ROUTE, SAFE_ROUTE, SAFE_ROUTE_LENGTH, UPPER_BOUNDS, neighbours, run,
 )
-
-
-def neighbours(columns, rows, cell):
-    column = cell % columns
-    row = cell // columns
-    around = [(column, row - 1), (column - 1, row), (column + 1, row), (column, row + 1)]
-    return [r * columns + c for c, r in around if 0 <= c < columns and 0 <= r < rows]
 
 
 def possible_thicknesses(columns, rows, max_step, measured):
@@ -48,6 +41,31 @@ def all_ice(columns, rows, max_step, measured):
             if all(abs(ice[near] - thickness) <= max_step for near in before)
         ]
     return grown
+
+
+def all_routes(columns, rows, origin, target):
+    """Give every route that enters no cell twice."""
+    found = []
+    growing = [[origin]]
+    while growing:
+        route = growing.pop()
+        if route[-1] == target:
+            found.append(route)
+            continue
+        for near in neighbours(columns, rows, route[-1]):
+            if near not in route:
+                growing.append(route + [near])
+    return found
+
+
+def turns_from_the_target(columns, rows, route):
+    """Give, from the target backwards, the place of each next cell among its neighbours in order."""
+    turns = []
+    for cell, before in zip(route[::-1], route[::-1][1:]):
+        column, row = cell % columns, cell // columns
+        order = [(column, row - 1), (column - 1, row), (column + 1, row), (column, row + 1)]
+        turns.append(order.index((before % columns, before // columns)))
+    return turns
 
 
 class RequirementsTest(unittest.TestCase):
@@ -124,6 +142,70 @@ class RequirementsTest(unittest.TestCase):
             apart = [high - low for low, high in zip(lower, upper)]
             with self.subTest(round_number=round_number):
                 self.assertEqual(answered[-1], [apart.index(max(apart)), max(apart)])
+
+
+class RouteRequirementsTest(unittest.TestCase):
+
+    def test_routes_where_few_cells_are_measured(self):
+        choice = random.Random(7)
+        for round_number in range(150):
+            grid = choice.randint(1, 4), choice.randint(1, 4), choice.choice([0, 1, 2, 5, 20])
+            with self.subTest(round_number=round_number):
+                self.check_routes(choice, grid, 0.3, 5)
+
+    def test_routes_where_every_cell_is_measured(self):
+        choice = random.Random(8)
+        for round_number in range(200):
+            grid = choice.randint(3, 4), choice.randint(3, 4), 20
+            with self.subTest(round_number=round_number):
+                self.check_routes(choice, grid, 1, 5)
+
+    def test_routes_on_greater_grids(self):
+        choice = random.Random(9)
+        for round_number in range(20):
+            grid = choice.choice([(5, 5, 20), (4, 5, 20), (5, 4, 20)])
+            with self.subTest(round_number=round_number):
+                self.check_routes(choice, grid, 1, 4)
+
+    def check_routes(self, choice, grid, share_measured, how_many):
+        columns, rows, max_step = grid
+        made = [(CREATE, columns, rows, max_step)]
+        for cell in range(columns * rows):
+            if choice.random() < share_measured:
+                made.append((MEASURE, cell, choice.choice([49, 50, 50])))
+        measured = self.measured(made)
+        thinnest = [min(left) for left in possible_thicknesses(columns, rows, max_step, measured)]
+        for number in range(how_many):
+            required = max(thinnest) - choice.choice([0, 0, 0, 1, -1])
+            # Most times there is enough ice at both ends, so that what lies between decides.
+            enough = [cell for cell, thickness in enumerate(thinnest) if thickness >= required]
+            ends = enough if enough and number > 0 else range(columns * rows)
+            self.check_route(made, grid, thinnest, max(0, required), choice.choice(ends), choice.choice(ends))
+
+    def measured(self, made):
+        listed = run(*made, (LIST_MEASUREMENTS,))[-1][1:]
+        return dict(zip(listed[::2], listed[1::2]))
+
+    def check_route(self, made, grid, thinnest, required, origin, target):
+        columns, rows = grid[0], grid[1]
+        routes = all_routes(columns, rows, origin, target)
+        safe = [route for route in routes if min(thinnest[cell] for cell in route) >= required]
+        route, length, thickness = run(
+            *made, (SAFE_ROUTE, required, origin, target), (SAFE_ROUTE_LENGTH, required, origin, target),
+            (MAX_SAFE_THICKNESS, origin, target),
+        )[-3:]
+        if safe:
+            fewest = min(len(route) for route in safe)
+            shortest = [route for route in safe if len(route) == fewest]
+            expected = min(shortest, key=lambda route: turns_from_the_target(columns, rows, route))
+            self.assertEqual((route, length), ([fewest] + expected, [fewest - 1]))
+        else:
+            self.assertEqual((route, length), (NO_SAFE_ROUTE, NO_SAFE_ROUTE))
+        best = max(min(thinnest[cell] for cell in route) for route in routes)
+        self.assertEqual(thickness, [best])
+        self.assertNotEqual(run(*made, (SAFE_ROUTE, best, origin, target))[-1], NO_SAFE_ROUTE)
+        if best < 99:
+            self.assertEqual(run(*made, (SAFE_ROUTE, best + 1, origin, target))[-1], NO_SAFE_ROUTE)
 
 
 if __name__ == "__main__":
